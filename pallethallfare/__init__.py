@@ -1,0 +1,1 @@
+"""PALLETHALL, layer h: tariffs and stays."""
