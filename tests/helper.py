@@ -1,4 +1,5 @@
 """What the tests share: calls as lists of numbers, answers taken apart, and a reader of the document's own words."""
+from heapq import heappop, heappush
 from itertools import combinations
 
 from pallethallfare.park import answers
@@ -112,10 +113,7 @@ class Product:
     def end(self, s):
         if self.sort == "buy":
             return s + self.held
-        minute = s + 1
-        while minute % DAY != self.held:
-            minute += 1
-        return minute
+        return next(m for m in (s // DAY * DAY + self.held, (s // DAY + 1) * DAY + self.held) if m > s)
 
 
 def ways(products, a, b, car, kind):
@@ -160,6 +158,20 @@ def slow_row(products, rests, a, b, car, kind):
                     x = end
                     break
     return chosen
+
+
+def forward_price(products, a, b, car, kind):
+    """rest(a) from the front: the least for all minutes before s, then each product begun at s put on top of it."""
+    heap = []
+    cents = 0
+    for s in range(a, b):
+        for p in products:
+            if p.may_begin(s, a, b, car, kind):
+                heappush(heap, (cents + p.cents, p.end(s)))
+        while heap[0][1] <= s:
+            heappop(heap)
+        cents = heap[0][0]
+    return cents
 
 
 def row_numbers(chosen):

@@ -2,8 +2,8 @@
 import random
 import unittest
 
-from tests.helper import (ANY, DAY, LATEST, WEEK, Product, bought, covers, fair, full_weights, last, least_of_all,
-                          lines, price, proof, random_case, row_numbers, run, slow_fair, slow_rests, slow_row, tariff,
+from tests.helper import (ANY, DAY, LATEST, WEEK, Product, bought, covers, fair, forward_price, full_weights, last,
+                          least_of_all, lines, price, proof, random_case, row_numbers, run, slow_fair, slow_rests, slow_row, tariff,
                           ways)
 
 HOUR = f"buy hour 100 60 {ANY}"
@@ -226,6 +226,26 @@ class Certificates(unittest.TestCase):
         for _ in range(25):
             a = rng.randrange(0, 3 * WEEK)
             self.assert_proved(a, a + rng.randrange(1, DAY + 1), rng.randrange(1, 5), rng.choice(["", "resident"]))
+
+    def test_stays_of_days(self):
+        rng = random.Random(6)
+        read = [Product(line) for line in self.PRODUCTS]
+        for minutes in (DAY + 1, 4000, 7777, WEEK - 1, WEEK):
+            a = rng.randrange(0, 3 * WEEK)
+            car = rng.randrange(1, 5)
+            kind = rng.choice(["", "resident"])
+            told = run(tariff(lines(*self.PRODUCTS)), price(a, a + minutes, car, kind), bought(a, a + minutes, car, kind))
+            cents = forward_price(read, a, a + minutes, car, kind)
+            self.assertEqual((told[1], told[2][1]), ([0, cents], cents))
+            chosen = [tuple(told[2][k:k + 4]) for k in range(3, len(told[2]), 4)]
+            reached = a
+            for number, begin, end, cost in chosen:
+                self.assertTrue(read[number].may_begin(begin, a, a + minutes, car, kind))
+                self.assertEqual((end, cost), (read[number].end(begin), read[number].cents))
+                self.assertTrue(begin <= reached < end)
+                reached = end
+            self.assertGreaterEqual(reached, a + minutes)
+            self.assertEqual((sum(c for _, _, _, c in chosen), len(chosen)), (cents, told[2][2]))
 
 
 class LongerAndLater(unittest.TestCase):
