@@ -1,12 +1,16 @@
 """The park: a list of calls, and what is answered."""
 
-from pallethallfare.limits import COIN_KINDS, FAULTY, FULL, IN_USE, LATEST_DAY, LATEST_MINUTE, MOST_BYTES
-from pallethallfare.limits import MOST_CARDS, MOST_CENTS, MOST_CLASS, MOST_COINS, MOST_PROOF_MINUTES, MOST_TICKETS
-from pallethallfare.limits import MOST_VOUCHERS, NOT_THERE, NO_TARIFF, TOO_LONG, WEEK, WRONG
+from pallethallfare.limits import COIN_KINDS, FAULTY, FULL, IN_USE, LATEST_DAY, LATEST_MINUTE, LOST_ALREADY
+from pallethallfare.limits import MOST_BYTES, MOST_CARDS, MOST_CENTS, MOST_CLASS, MOST_COINS, MOST_COINS_PAID
+from pallethallfare.limits import MOST_GIVEN_BACK, MOST_PROOF_MINUTES, MOST_TICKETS, MOST_VOUCHERS, NOT_THERE
+from pallethallfare.limits import NO_CHANGE, NO_TARIFF, OVERFULL, OWES_NOTHING, OWING, TOO_LONG, TOO_MUCH_BACK
+from pallethallfare.limits import WANTING, WEEK, WRONG
+from pallethallfare.purse import change_of, worth_of
 from pallethallfare.signs import is_name, text_of
 from pallethallfare.stay import Stay, first_overweight, offers_of, price_of, rests_of, row_of, sums_of, weights_of
 from pallethallfare.tariff import NO_FAULT, Tariff, first_fault, lines_of
-from pallethallfare.ticket import Card, Ticket, due_for, is_voucher, kind_by_card, owed_of
+from pallethallfare.ticket import Card, Ticket, base_of, best_order, due_for, in_order, is_voucher, kind_by_card
+from pallethallfare.ticket import left_by, owed_of
 
 
 class Park:
@@ -19,6 +23,14 @@ class Park:
         self.now = 0
         self.cards = []
         self.tickets = []
+        # Each payment as its minute and its cents.
+        self.payments = []
+
+    def take_payment(self, ticket, cents, coins):
+        self.coins = coins
+        self.payments.append((self.now, cents))
+        ticket.paid += cents
+        ticket.paid_at = self.now
 
 
 def are_coins(coins, most):
@@ -149,10 +161,7 @@ def answer_enter(park, numbers, rows):
     return [0, len(park.tickets) - 1]
 
 
-def answer_voucher(park, numbers, rows):
-    ticket = open_ticket(park, numbers[0])
-    if ticket is None:
-        return [NOT_THERE]
+def answer_voucher(park, ticket, numbers, rows):
     if not is_voucher(numbers[1], numbers[2]):
         return [WRONG]
     if len(ticket.vouchers) == MOST_VOUCHERS:
@@ -161,30 +170,127 @@ def answer_voucher(park, numbers, rows):
     return [0]
 
 
-def answer_owes(park, numbers, rows):
-    ticket = open_ticket(park, numbers[0])
-    if ticket is None:
-        return [NOT_THERE]
+def answer_owes(park, ticket, numbers, rows):
     due = due_for(park.tariff, ticket, park.now)
     return [0, owed_of(park.tariff, ticket, park.now, due), due, ticket.paid]
+
+
+def answer_best(park, ticket, numbers, rows):
+    base = base_of(park.tariff, ticket, park.now)
+    order = best_order(ticket.vouchers, base)
+    return [0, left_by(in_order(ticket.vouchers, order), base)] + order
+
+
+def answer_arrange(park, ticket, numbers, rows):
+    order = best_order(ticket.vouchers, base_of(park.tariff, ticket, park.now))
+    ticket.vouchers = in_order(ticket.vouchers, order)
+    return [0]
+
+
+def owed_now(park, ticket):
+    return owed_of(park.tariff, ticket, park.now, due_for(park.tariff, ticket, park.now))
+
+
+def answer_pay(park, ticket, numbers, rows):
+    coins = rows[0]
+    if not are_coins(coins, MOST_COINS_PAID):
+        return [WRONG]
+    owed = owed_now(park, ticket)
+    if owed == 0:
+        return [OWES_NOTHING]
+    back = worth_of(coins) - owed
+    if back < 0:
+        return [WANTING, -back]
+    if back > MOST_GIVEN_BACK:
+        return [TOO_MUCH_BACK]
+    together = [held + handed for held, handed in zip(park.coins, coins)]
+    change = change_of(together, back)
+    if change is None:
+        return [NO_CHANGE]
+    kept = [had - given for had, given in zip(together, change)]
+    if not are_coins(kept, MOST_COINS):
+        return [OVERFULL]
+    park.take_payment(ticket, owed, kept)
+    return [0] + change
+
+
+def answer_lost(park, ticket, numbers, rows):
+    if ticket.is_lost:
+        return [LOST_ALREADY]
+    ticket.is_lost = True
+    ticket.paid_at = None
+    return [0]
+
+
+def answer_leave(park, ticket, numbers, rows):
+    owed = owed_now(park, ticket)
+    if owed > 0:
+        return [OWING, owed]
+    ticket.is_gone = True
+    return [0]
+
+
+def answer_ticket(park, ticket, numbers, rows):
+    answer = [0, ticket.car_class, 1 if ticket.parks_by != "" else 0, ticket.minute, ticket.paid]
+    answer.append(1 if ticket.is_lost else 0)
+    answer.append(ticket.paid_at + 1 if ticket.paid_at is not None else 0)
+    answer.append(len(ticket.vouchers))
+    for voucher in ticket.vouchers:
+        answer.extend(list(voucher))
+    return answer
+
+
+def answer_coins(park, numbers, rows):
+    return [0] + park.coins
+
+
+def answer_takings(park, numbers, rows):
+    found = [cents for minute, cents in park.payments if numbers[0] <= minute <= numbers[1]]
+    return [0, sum(found), len(found)]
+
+
+def answer_stays(park, numbers, rows):
+    found = [number for number, ticket in enumerate(park.tickets) if not ticket.is_gone]
+    return [0, len(found)] + found
+
+
+def answer_change(park, numbers, rows):
+    if numbers[0] > MOST_GIVEN_BACK:
+        return [WRONG]
+    change = change_of(park.coins, numbers[0])
+    if change is None:
+        return [NO_CHANGE]
+    return [0] + change
 
 
 TARIFF = 1
 # How many whole numbers and how many rows each call has.
 FORMS = {
-    1: (0, 2), 2: (0, 0), 3: (1, 0), 4: (3, 1), 5: (3, 1), 6: (3, 1),
-    7: (2, 2), 8: (2, 1), 9: (2, 0), 10: (3, 0), 11: (1, 0),
+    1: (0, 2), 2: (0, 0), 3: (1, 0), 4: (3, 1), 5: (3, 1), 6: (3, 1), 7: (2, 2), 8: (2, 1), 9: (2, 0), 10: (3, 0),
+    11: (1, 0), 12: (1, 0), 13: (1, 0), 14: (1, 1), 15: (1, 0), 16: (1, 0), 17: (1, 0), 18: (0, 0), 19: (2, 0),
+    20: (0, 0), 21: (1, 0),
 }
 WORK = {
     1: answer_tariff, 2: answer_print, 3: answer_clock, 4: answer_price, 5: answer_row, 6: answer_proof,
-    7: answer_fair, 8: answer_season, 9: answer_enter, 10: answer_voucher, 11: answer_owes,
+    7: answer_fair, 8: answer_season, 9: answer_enter, 18: answer_coins, 19: answer_takings, 20: answer_stays,
+    21: answer_change,
+}
+# The calls whose first number is a ticket's.
+TICKET_WORK = {
+    10: answer_voucher, 11: answer_owes, 12: answer_best, 13: answer_arrange, 14: answer_pay, 15: answer_lost,
+    16: answer_leave, 17: answer_ticket,
 }
 
 
 def answer_call(park, call, numbers, rows):
     if park.tariff is None and call != TARIFF:
         return [NO_TARIFF]
-    return WORK[call](park, numbers, rows)
+    if call in WORK:
+        return WORK[call](park, numbers, rows)
+    ticket = open_ticket(park, numbers[0])
+    if ticket is None:
+        return [NOT_THERE]
+    return TICKET_WORK[call](park, ticket, numbers, rows)
 
 
 def rows_from(calls, begin, count):

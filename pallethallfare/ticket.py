@@ -1,4 +1,4 @@
-"""Tickets, season cards and vouchers: what's due and what's owed."""
+"""Tickets, season cards and vouchers: what's due, what's owed and the best order."""
 
 from pallethallfare.limits import DAY
 from pallethallfare.stay import Stay, price_of
@@ -61,6 +61,29 @@ def left_by(vouchers, base):
     for kind, n in vouchers:
         left -= taken_off(kind, n, left)
     return left
+
+
+# All orders of so many vouchers, the first by the first number that differs ahead.
+def orders_of(count):
+    orders = [[]]
+    while len(orders[0]) < count:
+        longer = []
+        for order in orders:
+            longer.extend([order + [number] for number in range(count) if number not in order])
+        orders = longer
+    return orders
+
+
+def in_order(vouchers, order):
+    return [vouchers[number] for number in order]
+
+
+def best_order(vouchers, base):
+    best = list(range(len(vouchers)))
+    for order in orders_of(len(vouchers)):
+        if left_by(in_order(vouchers, order), base) < left_by(in_order(vouchers, best), base):
+            best = order
+    return best
 
 
 def due_for(tariff, ticket, now):

@@ -8,6 +8,7 @@ DAY = 1440
 WEEK = 10080
 LATEST = 5000000
 COINS = [0] * 8
+CENTS = (1, 2, 5, 10, 20, 50, 100, 200)
 ANY = "1111111 0 1440 4"
 
 
@@ -61,6 +62,57 @@ def voucher(ticket, kind, n):
 
 def owes(ticket):
     return [11, ticket]
+
+
+def best(ticket):
+    return [12, ticket]
+
+
+def arrange(ticket):
+    return [13, ticket]
+
+
+def pay(ticket, coins):
+    return [14, ticket] + row(coins)
+
+
+def lost(ticket):
+    return [15, ticket]
+
+
+def leave(ticket):
+    return [16, ticket]
+
+
+def shown(ticket):
+    return [17, ticket]
+
+
+def held():
+    return [18]
+
+
+def takings(a=0, b=LATEST):
+    return [19, a, b]
+
+
+def stays():
+    return [20]
+
+
+def change(x):
+    return [21, x]
+
+
+def eight(counts):
+    """Eight numbers from {cents: how many}."""
+    if not set(counts) <= set(CENTS):
+        raise AssertionError(counts)
+    return [counts.get(cents, 0) for cents in CENTS]
+
+
+def worth(coins):
+    return sum(cents * count for cents, count in zip(CENTS, coins))
 
 
 def run(*calls):
@@ -194,6 +246,20 @@ def full_weights(told, a, b):
     for place in range(3, len(told), 2):
         weights[told[place] - a] = told[place + 1]
     return weights
+
+
+def one_by_one(coins, most):
+    """For each sum to most that coins come to the change: coin by coin, the best for each sum so far."""
+    best = {0: (0, (0,) * 8)}
+    for kind in range(7, -1, -1):
+        for _ in range(coins[kind]):
+            for x in sorted(best, reverse=True):
+                count, negated = best[x]
+                place = 7 - kind
+                longer = (count + 1, negated[:place] + (negated[place] - 1,) + negated[place + 1:])
+                if x + CENTS[kind] <= most:
+                    best[x + CENTS[kind]] = min(longer, best.get(x + CENTS[kind], longer))
+    return {x: [-count for count in reversed(best[x][1])] for x in best}
 
 
 def random_line(rng, name, base, minutes):

@@ -1,4 +1,4 @@
-"""Promise 5, as far as it has landed: season cards, tickets, vouchers, and what a ticket owes."""
+"""Promise 5: season cards, tickets, vouchers, and what a ticket owes before it has paid or is told lost."""
 import random
 import unittest
 
